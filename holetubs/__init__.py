@@ -1,0 +1,1 @@
+"""Holetubs: tubs with holes at heights, each letting so much an hour."""
