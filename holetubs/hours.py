@@ -7,7 +7,8 @@ each hole of each tub lets an hour. The last one goes on for ever.
 """
 
 from holetubs.figures import NOUGHT, less, lesser, minus, plus, times_by
-from holetubs.tubs import AWAY
+from holetubs.flows import flows
+from holetubs.tubs import place_of
 
 
 def hole_lets(height, rate, level, left):
@@ -30,21 +31,6 @@ def holes_let(holes, level, comes):
     return lets
 
 
-def flows(tubs, rain, levels):
-    """What comes into each tub an hour, and what each of its holes lets."""
-    names = [name for name, ground, holes in tubs]
-    comes = list(rain)
-    lets = []
-    # Holes lead to later tubs only, so in this order all that comes into a tub is known ahead of it.
-    for at, (name, ground, holes) in enumerate(tubs):
-        own = holes_let(holes, levels[at], comes[at])
-        lets.append(own)
-        for (height, rate, into), much in zip(holes, own):
-            if into != AWAY:
-                comes[names.index(into)] += much
-    return comes, lets
-
-
 def rain_at(weather, hour):
     """The rain that falls from this hour on."""
     falling = weather[0][1]
@@ -55,7 +41,9 @@ def rain_at(weather, hour):
 
 
 def stretch_from(tubs, weather, hour, levels):
-    comes, lets = flows(tubs, rain_at(weather, hour), levels)
+    def letting(at, much):
+        return holes_let(tubs[at][2], levels[at], much)
+    comes, lets = flows(tubs, rain_at(weather, hour), letting)
     gains = [came - sum(own) for came, own in zip(comes, lets)]
     return (hour, levels, gains, lets)
 
@@ -101,28 +89,31 @@ def stretches(tubs, weather, beginning):
     return told
 
 
-def heights(tubs, weather, beginning, hour):
-    """How high each tub stands at an hour."""
-    begun = [stretch for stretch in stretches(tubs, weather, beginning) if not less(hour, stretch[0])]
+def levels_by(tubs, told, hour):
+    """How high the tubs stand at an hour, by all the stretches."""
+    begun = [stretch for stretch in told if not less(hour, stretch[0])]
     return tuple(levels_at(tubs, begun[-1], hour))
 
 
-def place_of(tubs, hole):
-    """Which tub the hole is in, and which of that tub's holes it is, counted from nought."""
-    name, height = hole
-    at = [tub[0] for tub in tubs].index(name)
-    return at, [row[0] for row in tubs[at][2]].index(height)
+def went_by(tubs, told, hour, hole):
+    """How much went through a hole from hour 0 to this hour, by all the stretches."""
+    at, which = place_of(tubs, hole)
+    begun = [stretch for stretch in told if less(stretch[0], hour)]
+    ends = [stretch[0] for stretch in begun[1:]] + [hour]
+    went = NOUGHT
+    for (start, levels, gains, lets), end in zip(begun, ends):
+        went = plus(went, times_by(minus(end, start), lets[at][which], 1))
+    return went
+
+
+def heights(tubs, weather, beginning, hour):
+    """How high each tub stands at an hour."""
+    return levels_by(tubs, stretches(tubs, weather, beginning), hour)
 
 
 def through(tubs, weather, beginning, hour, hole):
     """How much went through a hole from hour 0 to this hour."""
-    at, which = place_of(tubs, hole)
-    told = [stretch for stretch in stretches(tubs, weather, beginning) if less(stretch[0], hour)]
-    ends = [stretch[0] for stretch in told[1:]] + [hour]
-    went = NOUGHT
-    for (start, levels, gains, lets), end in zip(told, ends):
-        went = plus(went, times_by(minus(end, start), lets[at][which], 1))
-    return went
+    return went_by(tubs, stretches(tubs, weather, beginning), hour, hole)
 
 
 def turns(tubs, weather, beginning):

@@ -1,6 +1,6 @@
-"""What tubs, weather and a beginning are."""
+"""What tubs, weather and a beginning are; the tubs and holes of tubs."""
 
-from holetubs.figures import is_fraction, is_whole_within
+from holetubs.figures import is_fraction, is_whole, is_whole_within
 
 LETTERS = "abcdefghijklmnopqrstuvwxyz"
 LONGEST_NAME = 8
@@ -56,6 +56,10 @@ def is_tub(thing):
     return is_name(name) and is_whole_within(ground, 1, GREATEST_GROUND) and are_holes(holes)
 
 
+def names_of(tubs):
+    return [name for name, ground, holes in tubs]
+
+
 def fits_among(tub, ahead, behind):
     """Whether no tub ahead has its name, and its holes lead away or to those behind it."""
     name, ground, holes = tub
@@ -65,7 +69,7 @@ def fits_among(tub, ahead, behind):
 def are_tubs(thing):
     if not is_tuple_of(thing, 1, MOST_TUBS) or not all([is_tub(part) for part in thing]):
         return False
-    names = [name for name, ground, holes in thing]
+    names = names_of(thing)
     return all([fits_among(tub, names[:at], names[at + 1:]) for at, tub in enumerate(thing)])
 
 
@@ -93,3 +97,39 @@ def is_beginning(tubs, thing):
     if not is_tuple_of(thing, len(tubs), len(tubs)):
         return False
     return all([is_fraction(part) for part in thing])
+
+
+def holes_of(tubs):
+    """All pairs (name, height) of the holes, in order."""
+    return [(name, height) for name, ground, holes in tubs for height, rate, into in holes]
+
+
+def is_name_of(tubs, thing):
+    """Whether it is the name of one of the tubs."""
+    return thing in names_of(tubs)
+
+
+def is_hole_of(tubs, thing):
+    """Whether it is a pair (name, height) of one of the holes."""
+    if not is_tuple_of(thing, 2, 2):
+        return False
+    # True equals 1 to Python, so the kind of the height is looked at, too.
+    return is_whole(thing[1]) and thing in holes_of(tubs)
+
+
+def tub_at(tubs, name):
+    """Which tub has the name, counted from nought."""
+    return names_of(tubs).index(name)
+
+
+def place_of(tubs, hole):
+    """Which tub the hole is in, and which of that tub's holes it is, counted from nought."""
+    name, height = hole
+    at = tub_at(tubs, name)
+    return at, [row[0] for row in tubs[at][2]].index(height)
+
+
+def without_holes(tubs, plugs):
+    """The same tubs as they are with these holes plugged."""
+    return tuple([(name, ground, tuple([hole for hole in holes if (name, hole[0]) not in plugs]))
+                  for name, ground, holes in tubs])

@@ -9,6 +9,7 @@ import random
 from fractions import Fraction
 
 NAMES = ("a", "tub", "zzzzzzzz")
+FORTY = 10 ** 40 - 1
 
 
 def as_fraction(pair):
@@ -95,6 +96,45 @@ def follow(tubs, weather, beginning):
     return told
 
 
+class Ended:
+    """What the second way comes to in the end, under one rain, from a dry beginning."""
+
+    def __init__(self, tubs, rain):
+        self.followed = dict(zip([tub[0] for tub in tubs], follow(tubs, ((0, rain),), ((0, 1),) * len(tubs))))
+        self.rain = dict(zip(self.followed, rain))
+        self.ways = [(name, hole) for name, ground, holes in tubs for hole in holes]
+
+    def lets(self, hole):
+        one = self.followed[hole[0]]
+        return one.lets[[row[0] for row in one.holes].index(hole[1])][-1][1]
+
+    def comes(self, name):
+        return self.rain[name] + sum([self.lets((tub, row[0])) for tub, row in self.ways if row[2] == name])
+
+    def reaches(self, name, height):
+        """Whether the tub rises for ever, or stands at the height or above; from dry none stands higher than by
+        any other beginning."""
+        hour, level, gain = self.followed[name].path[-1]
+        return gain > 0 or level >= height
+
+
+def plugged(tubs, plugs):
+    return tuple((name, ground, tuple(hole for hole in holes if (name, hole[0]) not in plugs))
+                 for name, ground, holes in tubs)
+
+
+def times_wider(tubs, many):
+    """Grounds and rates so many times as great."""
+    return tuple((name, ground * many, tuple((height, rate * many, into) for height, rate, into in holes))
+                 for name, ground, holes in tubs)
+
+
+def times_higher(tubs, many):
+    """Heights of holes so many times as great."""
+    return tuple((name, ground, tuple((height * many, rate, into) for height, rate, into in holes))
+                 for name, ground, holes in tubs)
+
+
 def followed_turns(tubs, weather, beginning):
     rows = [(hour, at, one.name) for at, one in enumerate(follow(tubs, weather, beginning)) for hour in one.turns()]
     return [(as_pair(hour), name) for hour, at, name in sorted(rows)]
@@ -134,6 +174,13 @@ def any_yard(chance):
     return tubs, any_weather(chance, tubs), any_beginning(chance, tubs)
 
 
+def many_rained(count, seed, **bounds):
+    """Tubs with a rain each."""
+    chance = random.Random(seed)
+    told = [any_tubs(chance, **bounds) for at in range(count)]
+    return [(tubs, any_rain(chance, tubs)) for tubs in told]
+
+
 def many_yards(count, seed):
     chance = random.Random(seed)
     return [any_yard(chance) for at in range(count)]
@@ -146,3 +193,28 @@ def telling_hours(tubs, weather, beginning):
     marks = sorted(marks)
     midway = [(one + other) / 2 for one, other in zip(marks, marks[1:])]
     return [as_pair(hour) for hour in sorted(marks + midway + [marks[-1] + 1, marks[-1] + Fraction(10 ** 39, 3)])]
+
+
+def nested(depth, kind, inmost):
+    thing = inmost
+    for at in range(depth):
+        thing = kind([thing])
+    return thing
+
+
+def any_thing(chance, depth):
+    if depth == 0 or chance.random() < 0.4:
+        return chance.choice((0, 1, -1, 7, 1000, FORTY, -FORTY, 0.5, 1.0, "", "a", "b", "tub", "a b\n~", "A", True,
+                              False, None, (), [], (0, 1), (1, 2), ("a", 1, ()), (3, 1, "")))
+    parts = [any_thing(chance, depth - 1) for at in range(chance.randint(0, 4))]
+    return chance.choice((list, tuple))(parts)
+
+
+def changed(chance, thing):
+    """The same with one part, at any depth, put in another's place."""
+    if not isinstance(thing, tuple) or not thing or chance.random() < 0.15:
+        return any_thing(chance, 2)
+    parts = list(thing)
+    at = chance.randrange(len(parts))
+    parts[at] = changed(chance, parts[at])
+    return tuple(parts)

@@ -7,10 +7,9 @@ from fractions import Fraction
 
 from holetubs import hours as module
 from holetubs.hours import heights, settled, through, turns
-from tests.helpers import (all_holes, any_weather, as_fraction, as_pair, follow, followed_turns, many_yards,
+from tests.helpers import (FORTY, all_holes, any_weather, as_fraction, as_pair, follow, followed_turns, many_yards,
                            telling_hours)
 
-FORTY = 10 ** 40 - 1
 DRY = ((0, 1),)
 ONE_HOLE = (("a", 2, ((3, 4, ""),)),)
 TWO_HOLES = (("a", 5, ((1, 2, ""), (3, 4, ""))),)

@@ -39,6 +39,15 @@ def assigned(tree):
             yield node.id
 
 
+def own_parts(trees):
+    """The names of the methods and of the attributes that the classes have."""
+    nodes = [node for tree in trees for node in ast.walk(tree)]
+    methods = {part.name for node in nodes if isinstance(node, ast.ClassDef) for part in node.body
+               if isinstance(part, ast.FunctionDef)}
+    attributes = {node.attr for node in nodes if isinstance(node, ast.Attribute) and isinstance(node.ctx, ast.Store)}
+    return methods, attributes
+
+
 class TestLanguage(unittest.TestCase):
     def each(self, check):
         for name, text in package_files().items():
@@ -104,7 +113,41 @@ class TestLanguage(unittest.TestCase):
                             self.assertIsInstance(other, ast.Constant)
         self.each(check)
 
+    def test_iterated_at_once(self):
+        def check(name, text, tree):
+            for node in ast.walk(tree):
+                if isinstance(node, (ast.Assign, ast.Return)) and isinstance(node.value, ast.Call):
+                    called = node.value.func
+                    word = called.id if isinstance(called, ast.Name) else called.attr
+                    self.assertNotIn(word, ("range", "zip", "enumerate", "reversed", "items", "keys", "values"))
+        self.each(check)
+
+    def test_classes(self):
+        def check(name, text, tree):
+            methods, attributes = own_parts([tree])
+            self.assertFalse(methods & attributes)
+            self.assertFalse(attributes & (METHODS | {"sort", "args", "format"}))
+            for node in ast.walk(tree):
+                if isinstance(node, ast.ClassDef):
+                    self.assertFalse(node.decorator_list)
+                    for part in node.body:
+                        self.assertIsInstance(part, (ast.FunctionDef, ast.Expr))
+                        if isinstance(part, ast.FunctionDef) and part.name.startswith("__"):
+                            self.assertIn(part.name, ("__init__", "__eq__", "__len__"))
+        self.each(check)
+
+    def test_no_import_goes_round(self):
+        ways = {name[:-3]: [node.module.split(".")[1] for node in ast.parse(text).body
+                            if isinstance(node, ast.ImportFrom)] for name, text in package_files().items()}
+        done = []
+        while len(done) < len(ways):
+            ready = [name for name in ways if name not in done and all([way in done for way in ways[name]])]
+            self.assertTrue(ready)
+            done += ready
+
     def test_names(self):
+        methods, attributes = own_parts([ast.parse(text) for text in package_files().values()])
+
         def check(name, text, tree):
             bound = set(assigned(tree))
             imported = {row.name for node in tree.body if isinstance(node, ast.ImportFrom) for row in node.names}
@@ -114,7 +157,7 @@ class TestLanguage(unittest.TestCase):
                 if isinstance(node, ast.Name) and hasattr(builtins, node.id):
                     self.assertIn(node.id, BUILTINS)
                 if isinstance(node, ast.Attribute):
-                    self.assertIn(node.attr, METHODS)
+                    self.assertIn(node.attr, METHODS | methods | attributes)
         self.each(check)
 
 

@@ -7,8 +7,8 @@ import unittest
 
 from holetubs import tubs as module
 from holetubs.tubs import are_tubs, is_beginning, is_weather
+from tests.helpers import FORTY, any_thing, changed, nested
 
-FORTY = 10 ** 40 - 1
 ONE = (("a", 1, ()),)
 THREE = (("a", 3, ((0, 2, "b"), (5, 1, ""), (9, 4, "c"))), ("b", 2, ((4, 1, "c"),)), ("c", 1, ()))
 
@@ -19,31 +19,6 @@ def one_tub(name="a", ground=5, holes=()):
 
 def one_hole(height=3, rate=2, into=""):
     return one_tub(holes=((height, rate, into),))
-
-
-def nested(depth, kind, inmost):
-    thing = inmost
-    for at in range(depth):
-        thing = kind([thing])
-    return thing
-
-
-def any_thing(chance, depth):
-    if depth == 0 or chance.random() < 0.4:
-        return chance.choice((0, 1, -1, 7, 1000, FORTY, -FORTY, 0.5, 1.0, "", "a", "b", "tub", "a b\n~", "A", True,
-                              False, None, (), [], (0, 1), (1, 2), ("a", 1, ()), (3, 1, "")))
-    parts = [any_thing(chance, depth - 1) for at in range(chance.randint(0, 4))]
-    return chance.choice((list, tuple))(parts)
-
-
-def changed(chance, thing):
-    """The same with one part, at any depth, put in another's place."""
-    if not isinstance(thing, tuple) or not thing or chance.random() < 0.15:
-        return any_thing(chance, 2)
-    parts = list(thing)
-    at = chance.randrange(len(parts))
-    parts[at] = changed(chance, parts[at])
-    return tuple(parts)
 
 
 class TestInterface(unittest.TestCase):

@@ -1,13 +1,16 @@
-"""Promise [3], in what it says of the first stages."""
+"""Promise [3]: what holds over the whole program."""
 
 import random
 import unittest
 from fractions import Fraction
 
+from holetubs.backward import fewest_plugs, least_rain, rates_by
 from holetubs.hours import heights, settled, through, turns
+from holetubs.rests import comes, rests
 from holetubs.tubs import are_tubs, is_beginning, is_weather
+from holetubs.yards import Yard
 from tests.helpers import (all_holes, any_beginning, any_rain, any_tubs, any_weather, as_fraction, as_pair,
-                           many_yards, telling_hours)
+                           many_rained, many_yards, telling_hours, times_higher, times_wider)
 
 
 def rain_by(weather, at, hour):
@@ -94,8 +97,7 @@ class TestSoManyTimesAsGreat(unittest.TestCase):
     def test_grounds_rates_and_rain(self):
         for tubs, weather, beginning in many_yards(40, 18):
             for many in (2, 3, 4, 5):
-                wider = tuple((name, ground * many, tuple((height, rate * many, into) for height, rate, into in holes))
-                              for name, ground, holes in tubs)
+                wider = times_wider(tubs, many)
                 wetter = tuple((hour, tuple(one * many for one in rain)) for hour, rain in weather)
                 self.assertTrue(are_tubs(wider) and is_weather(wider, wetter))
                 with self.subTest((tubs, weather, beginning, many)):
@@ -111,8 +113,7 @@ class TestSoManyTimesAsGreat(unittest.TestCase):
     def test_heights_beginnings_and_hours(self):
         for tubs, weather, beginning in many_yards(40, 19):
             for many in (2, 3, 4, 5):
-                higher = tuple((name, ground, tuple((height * many, rate, into) for height, rate, into in holes))
-                               for name, ground, holes in tubs)
+                higher = times_higher(tubs, many)
                 later = tuple((hour * many, rain) for hour, rain in weather)
                 fuller = tuple(times(one, many) for one in beginning)
                 self.assertTrue(are_tubs(higher) and is_weather(higher, later) and is_beginning(higher, fuller))
@@ -127,6 +128,86 @@ class TestSoManyTimesAsGreat(unittest.TestCase):
                             self.assertEqual(
                                 through(higher, later, fuller, times(hour, many), (name, height * many)),
                                 times(through(tubs, weather, beginning, hour, (name, height)), many))
+
+
+class TestSoManyTimesAsGreatInTheEnd(unittest.TestCase):
+    """Rests, rains, rates and plugs of the same tubs, two to five times as great."""
+
+    def each(self, seed, check):
+        chance = random.Random(seed)
+        for tubs, rain in many_rained(60, seed + 1):
+            names = [tub[0] for tub in tubs]
+            for many in (2, 3, 4, 5):
+                name, other, number = chance.choice(names), chance.choice(names), chance.randint(0, 6)
+                with self.subTest((tubs, rain, many, name, other, number)):
+                    check(tubs, rain, many, name, other, number)
+
+    def test_grounds_rates_and_rain(self):
+        def check(tubs, rain, many, name, other, number):
+            wider, wetter = times_wider(tubs, many), tuple(part * many for part in rain)
+            self.assertTrue(are_tubs(wider))
+            self.assertEqual(rests(wider, wetter), rests(tubs, rain))
+            self.assertEqual(comes(wider, wetter), tuple(part * many for part in comes(tubs, rain)))
+            self.assertEqual(fewest_plugs(wider, wetter, other, number * many), fewest_plugs(tubs, rain, other, number))
+            least = least_rain(tubs, rain, name, other, number)
+            # All but the first drop was not enough so many times as great, either; the next whole number is.
+            grown = least if least in (None, 0) else (least - 1) * many + 1
+            self.assertEqual(least_rain(wider, wetter, name, other, number), grown)
+            for hole in all_holes(tubs):
+                for another in all_holes(tubs):
+                    rates = rates_by(wider, wetter, hole, another, number * many)
+                    self.assertEqual([rate for rate in rates if rate % many == 0],
+                                     [rate * many for rate in rates_by(tubs, rain, hole, another, number)
+                                      if rate * many <= 100])
+        self.each(24, check)
+
+    def test_heights(self):
+        def check(tubs, rain, many, name, other, number):
+            higher = times_higher(tubs, many)
+            self.assertTrue(are_tubs(higher))
+            self.assertEqual(comes(higher, rain), comes(tubs, rain))
+            self.assertEqual(rests(higher, rain), [
+                tuple(part if part in ("rises", None) else part * many for part in row) for row in rests(tubs, rain)])
+            self.assertEqual(least_rain(higher, rain, name, other, number * many),
+                             least_rain(tubs, rain, name, other, number))
+            plugs = fewest_plugs(tubs, rain, other, number)
+            self.assertEqual(fewest_plugs(higher, rain, other, number),
+                             None if plugs is None else tuple((tub, height * many) for tub, height in plugs))
+            for tub, height in all_holes(tubs):
+                for way, high in all_holes(tubs):
+                    self.assertEqual(rates_by(higher, rain, (tub, height * many), (way, high * many), number),
+                                     rates_by(tubs, rain, (tub, height), (way, high), number))
+        self.each(26, check)
+
+    def test_yards(self):
+        def check(tubs, rain, many, name, other, number):
+            yard = Yard(tubs)
+            wider, higher = Yard(times_wider(tubs, many)), Yard(times_higher(tubs, many))
+            for one in (yard, wider, higher):
+                one.pour(name, (number * many, 1) if one is higher else (number, 1))
+                one.set_rain(tuple(part * many for part in rain) if one is wider else rain)
+                one.go_on((number + 1) * many if one is higher else number + 1)
+            self.assertEqual(wider.heights(), yard.heights())
+            self.assertEqual(higher.heights(), tuple(times(one, many) for one in yard.heights()))
+            self.assertEqual(wider.away(), times(yard.away(), many))
+            self.assertEqual(higher.away(), times(yard.away(), many))
+        self.each(28, check)
+
+
+class TestMoreRainInTheEnd(unittest.TestCase):
+    def test_more_rain_never_leaves_less(self):
+        chance = random.Random(30)
+        for tubs, rain in many_rained(200, 31):
+            more = tuple(one + extra for one, extra in zip(rain, any_rain(chance, tubs, 4)))
+            with self.subTest((tubs, rain, more)):
+                for one, other in zip(comes(tubs, rain), comes(tubs, more)):
+                    self.assertLessEqual(one, other)
+                far = 10 ** 9
+                lows, highs = [[(far, far) if row == ("rises",) else (row[0], far if row[1] is None else row[1])
+                                for row in rests(tubs, rained)] for rained in (rain, more)]
+                for low, high in zip(lows, highs):
+                    self.assertLessEqual(low[0], high[0])
+                    self.assertLessEqual(low[1], high[1])
 
 
 class TestAskedAgain(unittest.TestCase):
